@@ -1,0 +1,1 @@
+"""Quiltward: patches with labels as the unit of a version store."""

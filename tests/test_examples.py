@@ -1,0 +1,111 @@
+"""The examples of the interface, exactly as they stand in the document, and those of README.md."""
+
+import os
+import unittest
+
+from examples import run_examples
+
+README = os.path.join(os.path.dirname(os.path.dirname(os.path.abspath(__file__))), "README.md")
+
+PATCHES = """
+>>> from quiltward.patches import check_fits, needs
+>>> one = ((("label", 0, ()), "ann", 1))
+>>> first = ("patch", one, [("add", ("a",)), ("lines", (one, 0, 0), [], [], ["x", "y"])], "start")
+>>> other = ("patch", (("label", 0, ()), "bob", 1), [("cut", (one, 0, 0), [(one, 1, 1)]), ("back", one)], "")
+>>> needs(other) == [one], check_fits({one: first}, other)
+(True, None)
+>>> check_fits({}, other)
+raises PatchError(0)
+"""
+
+SETS = """
+>>> from quiltward.sets import order_of, set_of, standing
+>>> one, two = (("label", 0, ()), "ann", 1), (("label", 0, ()), "ann", 2)
+>>> patches = set_of([("patch", one, [("add", ("a",))], ""), ("patch", two, [("back", one)], "")])
+>>> order_of(patches) == [one, two], standing(patches) == {two: True}
+(True, True)
+"""
+
+WRITTEN = """
+>>> from quiltward.written import read_label, read_vertex, show_patch
+>>> ann, bo = (("label", 1, ()), "ann", 2), (("label", 1, ()), "bo", 1)
+>>> show_patch(("patch", ann, [("lines", (bo, 0, 0), [], [], ["hi"])], ""))
+['patch 1.ann.2', 'note ', 'lines 1.bo.1.0.0 - - 1', '|hi', 'end']
+>>> [read_label("3:20"), read_label("8"), read_vertex("0.bo.1.0.200"), read_vertex("0.bo.01.0.0")]
+[None, None, None, None]
+"""
+
+PATHS = """
+>>> from quiltward.labels import is_below
+>>> from quiltward.paths import label_of, parse_path
+>>> is_below(("label", 1, (2,)), ("label", 3, (0, 2))), parse_path("a/b7"), parse_path("a//b")
+(True, ('a', 'b7'), None)
+>>> label_of([(("a",), ("label", 2, ())), ((), ("label", 1, (0,)))], ("a", "b"))
+('label', 2, ())
+"""
+
+TREES = """
+>>> from quiltward.sets import set_of
+>>> from quiltward.trees import conflicts, tree
+>>> one, two, three = [(("label", 0, ()), name, 1) for name in ["ann", "bob", "eve"]]
+>>> file = (one, 0, 0)
+>>> rows = [("patch", one, [("add", ("a",))], "")] + [("patch", who, [("move", file, path, [file])], "") for who, path in [(two, ("b",)), (three, ("c", "d"))]]
+>>> [path for path, files in tree(set_of(rows))], conflicts(set_of(rows))[0][0]
+([('b',), ('c', 'd')], 'names')
+"""
+
+TAPES = """
+>>> from quiltward.tapes import Tape, read_records, record_text
+>>> read_records(record_text(2, "a:b") + "3 0:")[0]
+[(2, 'a:b')]
+>>> tape = Tape()
+>>> for text in ["a", "b"]:
+...     tape.append(text)
+>>> tape.sync()
+>>> tape.append("c")
+>>> tape.crash((3, 0))
+>>> tape.recover()
+['a', 'b']
+"""
+
+BLOCKS = """
+>>> from quiltward.blocks import blocks, shown_texts
+>>> from quiltward.graphs import FileGraph
+>>> a, b, c, d = [((("label", 0, ()), "ann", 1), 1, k) for k in range(4)]
+>>> graph = FileGraph({a: "a", b: "b", c: "c", d: "d"}, {a: True, b: True, d: True}, {c: [b], d: [a, c]})
+>>> blocks(graph) == [[d], [a, b]], shown_texts(graph), graph.before(d, b), graph.apart(a, b)
+(True, None, True, True)
+"""
+
+
+class ExamplesTest(unittest.TestCase):
+    def test_patches(self):
+        run_examples(self, PATCHES)
+
+    def test_sets(self):
+        run_examples(self, SETS)
+
+    def test_written(self):
+        run_examples(self, WRITTEN)
+
+    def test_paths(self):
+        run_examples(self, PATHS)
+
+    def test_trees(self):
+        run_examples(self, TREES)
+
+    def test_tapes(self):
+        run_examples(self, TAPES)
+
+    def test_blocks(self):
+        run_examples(self, BLOCKS)
+
+    def test_readme(self):
+        with open(README, encoding="ascii") as source:
+            parts = [part for part in source.read().split("```\n")[1::2] if part.startswith(">>> ")]
+        self.assertEqual(len(parts), 2)
+        run_examples(self, "".join(parts))
+
+
+if __name__ == "__main__":
+    unittest.main()

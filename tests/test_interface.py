@@ -1,0 +1,91 @@
+"""Each name of the interface exists, with its arguments, in the file that lists it."""
+
+import ast
+import os
+import unittest
+
+FOLDER = os.path.join(os.path.dirname(os.path.dirname(os.path.abspath(__file__))), "quiltward")
+
+FUNCTIONS = {
+    "labels": ["is_below(one, other)", "label_key(label)", "sorted_labels(labels)", "joined(one, other)",
+               "common(one, other)"],
+    "patches": ["is_label(label)", "is_id(name)", "is_path(path)", "is_text(text)", "needs(patch)",
+                "vertex_needs(patch)", "backs(patch)", "made_by(patch)", "check_patch(patch)",
+                "check_fits(patches, patch)"],
+    "sets": ["is_set(patches)", "with_patch(patches, patch)", "set_of(row)", "without(patches, name)",
+             "dependents(patches, name)", "all_needs(patches, name)", "closure(patches, names)",
+             "order_of(patches)", "order_right(patches, order)", "clashes(one, other)", "union(one, other)",
+             "standing(patches)", "counted(patches)"],
+    "written": ["show_label(label)", "show_path(path)", "show_id(name)", "show_vertex(vertex)", "read_label(text)",
+                "read_path(text)", "read_id(text)", "read_vertex(text)", "show_patch(patch)", "read_patch(lines)",
+                "show_patches(patches)", "read_patches(lines)"],
+    "paths": ["begins(prefix, path)", "show_path(path)", "parse_path(text)", "rule_at(rules, path)",
+              "label_of(rules, path)"],
+    "blame": ["changes_of(patches, file)", "lines_in(patches, file)", "is_live(patches, file, vertex)",
+              "whence(patches, file, vertex)", "blame(patches, file)", "history(patches, file)",
+              "shares(patches, file)"],
+    "trees": ["files_of(patches)", "names(patches, file)", "tree(patches)", "conflicts(patches)",
+              "clear_tree(patches)"],
+    "repos": ["files_at(rules, label, patches)", "files_below(rules, spaces, clearance)"],
+    "tapes": ["check_number(text)", "record_text(kind, text)", "read_records(data)"],
+    "blocks": ["shown_order(graph)", "blocks(graph)", "shown(graph)", "conflicts(graph)", "shown_texts(graph)",
+               "blocks_right(graph, rows)"],
+    "graphs": ["file_graph(patches, file)"],
+}
+CLASSES = {
+    ("logs", "Log"): ["__init__(tape, label)", "put(patch)", "out(name)", "tag(name, ids)", "untag(name)", "sync()",
+                      "entries()"],
+    ("repos", "Repo"): ["__init__(rules)", "space(label)", "labels()", "put(patch)", "next_id(label, name)"],
+    ("tapes", "Tape"): ["__init__()", "append(text)", "sync()", "begin(texts)", "mark()", "switch()", "crash(kept)",
+                        "recover()"],
+    ("archives", "Archive"): ["__init__()", "save(repo)", "restore(rules, clearance)"],
+    ("graphs", "FileGraph"): ["__init__(lines, present, edges)", "before(one, other)", "strictly(one, other)",
+                              "apart(one, other)", "present_lines()"],
+}
+ERRORS = {"TextError": "at", "WrittenError": "at", "PatchError": "place", "NeededError": "ids", "ClashError": "ids",
+          "StepError": "step", "MissingError": "item", "BundleError": "place", "CommandError": "line",
+          "VouchError": "place"}
+
+
+def tree_of(module):
+    with open(os.path.join(FOLDER, module + ".py"), encoding="ascii") as source:
+        return ast.parse(source.read())
+
+
+def heads(body, first=0):
+    """The heads of the functions of a body, without so many first arguments."""
+    return [f"{node.name}({', '.join(arg.arg for arg in node.args.args[first:])})"
+            for node in body if isinstance(node, ast.FunctionDef)]
+
+
+class InterfaceTest(unittest.TestCase):
+    def test_functions(self):
+        for module, told in FUNCTIONS.items():
+            there = heads(tree_of(module).body)
+            for head in told:
+                self.assertIn(head, there, module)
+
+    def test_methods_stand_in_the_class_itself(self):
+        for (module, word), told in CLASSES.items():
+            bodies = [node.body for node in tree_of(module).body
+                      if isinstance(node, ast.ClassDef) and node.name == word]
+            self.assertEqual(len(bodies), 1, word)
+            there = heads(bodies[0], 1)
+            for head in told:
+                self.assertIn(head, there, word)
+
+    def test_errors(self):
+        from quiltward import errors
+        self.assertEqual(errors.WardError.__bases__, (ValueError,))
+        for word, attribute in ERRORS.items():
+            kind = getattr(errors, word)
+            self.assertEqual(kind.__bases__, (errors.WardError,))
+            for value in [0, -1, "label", [ANN]]:
+                self.assertEqual(getattr(kind(value), attribute), value)
+            self.assertEqual(getattr(kind(**{attribute: 5}), attribute), 5)
+
+
+ANN = (("label", 0, ()), "ann", 1)
+
+if __name__ == "__main__":
+    unittest.main()
