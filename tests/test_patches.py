@@ -62,6 +62,14 @@ class NeedsTest(unittest.TestCase):
         self.assertEqual(needs(made), [ANN, EVE])
         self.assertEqual([needs(start("x")), vertex_needs(start()), backs(start())], [[], [], []])
 
+    def test_ids_are_ascending_whatever_comes_first(self):
+        last = (name("zoe", 1), 0, 0)
+        made = patch(BOB, ("drop", last, [last]), ("back", EVE), ("drop", FILE, [FILE]), ("back", name("dan", 2)),
+                     ("drop", (EVE, 0, 0), [(EVE, 0, 0)]), ("back", name("dan", 10)))
+        self.assertEqual(vertex_needs(made), [ANN, EVE, name("zoe", 1)])
+        self.assertEqual(backs(made), [name("dan", 2), name("dan", 10), EVE])
+        self.assertEqual(needs(made), [ANN, name("dan", 2), name("dan", 10), EVE, name("zoe", 1)])
+
     def test_random_patches(self):
         for seed in range(20):
             for made in random_rows(seed, 12):

@@ -193,6 +193,7 @@ class PartsTest(unittest.TestCase):
         with self.assertRaises(ClashError) as caught:
             union(one, wrong)
         self.assertEqual(caught.exception.ids, [ANN, EVE])
+        self.assertEqual(clashes(wrong, one), [ANN, EVE])
         self.assertEqual([one, other], [table(CHAIN[:3]), table([CHAIN[0], CHAIN[3]])])
 
 
