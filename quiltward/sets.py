@@ -88,9 +88,8 @@ def closure(patches, names):
     return {name: patches[name] for name in reached(needs_table(patches), names)}
 
 
-def order_of(patches):
-    """Return the order of a set in which the least id comes first, as long as there is a choice."""
-    table = needs_table(patches)
+def order_along(table):
+    """Return the keys of a table of needs, each behind those it needs, the least first; without those in circles."""
     takers = turned(table)
     missing = {name: len(table[name]) for name in table}
     # An ascending list is a heap already.
@@ -104,6 +103,11 @@ def order_of(patches):
             if missing[other] == 0:
                 heappush(ready, other)
     return order
+
+
+def order_of(patches):
+    """Return the order of a set in which the least id comes first, as long as there is a choice."""
+    return order_along(needs_table(patches))
 
 
 def order_right(patches, order):

@@ -77,6 +77,41 @@ BLOCKS = """
 (True, None, True, True)
 """
 
+COMMUTING = """
+>>> from quiltward.commuting import after_swaps, swaps_between
+>>> rows = [("patch", (("label", 0, ()), "ann", k), [("add", ("f",))], "") for k in [1, 2, 3]]
+>>> swaps_between(rows, rows[::-1]), after_swaps(rows, [1, 0, 1]) == rows[::-1]
+([1, 0, 1], True)
+"""
+
+GUESSING = """
+>>> from quiltward.guessing import Yard
+>>> one, two = [(("label", 0, ()), "ann", k) for k in [1, 2]]
+>>> patches = {one: ("patch", one, [("add", ("a",))], ""), two: ("patch", two, [("add", ("b",))], "")}
+>>> yard = Yard(patches, [], [one, two], 2, [])
+>>> yard.wanted() == [[one], [one, two]], yard.answer([one, two], True), yard.report()
+(True, None, [])
+>>> yard.answer([one], False), yard.wanted() == [[two]], yard.counts()
+(None, True, (2, 1, 1))
+"""
+
+SCRIPTS = """
+>>> from quiltward.scripts import levels, steps_between
+>>> steps_between(["a", "b", "c"], ["b", "x", "c", "b"])
+[('cut', 0), ('keep', 1, 0), ('put', 1), ('keep', 2, 2), ('put', 3)]
+>>> levels(["a", "b", "c"], ["b", "x", "c", "b"])
+[[(1, 0), (1, 3)], [(2, 2)]]
+"""
+
+WANTS = """
+>>> from quiltward.graphs import FileGraph
+>>> from quiltward.wants import wanted
+>>> file, a, b, c = [((("label", 0, ()), "ann", 1), 1, k) for k in range(4)]
+>>> graph = FileGraph({a: "a", b: "b", c: "c"}, {a: True, b: True, c: True}, {a: [c]})
+>>> wanted(graph, file, ["a", "b", "x", "c"]) == [("order", file, a, b), ("lines", file, [b], [c], ["x"])]
+True
+"""
+
 
 class ExamplesTest(unittest.TestCase):
     def test_patches(self):
@@ -99,6 +134,18 @@ class ExamplesTest(unittest.TestCase):
 
     def test_blocks(self):
         run_examples(self, BLOCKS)
+
+    def test_commuting(self):
+        run_examples(self, COMMUTING)
+
+    def test_guessing(self):
+        run_examples(self, GUESSING)
+
+    def test_scripts(self):
+        run_examples(self, SCRIPTS)
+
+    def test_wants(self):
+        run_examples(self, WANTS)
 
     def test_readme(self):
         with open(README, encoding="ascii") as source:

@@ -1,5 +1,6 @@
 """Points 11, 12 and 13: file graphs."""
 
+import copy
 import random
 import unittest
 
@@ -112,6 +113,45 @@ class OfSetsTest(unittest.TestCase):
         lines, present, edges = self.told(self.rows + [below, back])
         self.assertEqual((present, edges[c]), ([X, Y, Z, (name("dan", 1), 0, 0)], [Y, (name("dan", 1), 0, 0)]))
         self.assertEqual((edges[X], edges[b]), ([Y, b], [c]))
+
+    def test_a_second_file_of_the_same_set(self):
+        patches, e = set_of(self.rows), (EVE, 2, 0)
+        graph = file_graph(patches, (EVE, 1, 0))
+        self.assertEqual((graph.lines, graph.present, graph.edges), ({e: "e"}, {e: True}, {}))
+        self.assertFalse(graph.before(e, e))
+        gone = file_graph(set_of(self.rows + [patch(name("eve", 2), ("back", EVE))]), (EVE, 1, 0))
+        self.assertEqual((gone.lines, gone.present, gone.edges), ({e: "e"}, {}, {}))
+
+    def test_a_cut_that_was_taken_back_cuts_nothing(self):
+        rows = self.rows + [patch(name("eve", 2), ("back", BOB))]
+        self.assertEqual(self.told(rows)[1], [X, Y, Z])
+        rows.append(patch(name("eve", 3), ("back", name("eve", 2))))
+        self.assertEqual(self.told(rows), self.told(self.rows))
+
+    def test_ways_over_lines_that_are_not_present(self):
+        b, c = (BOB, 0, 0), (BOB, 0, 1)
+        rows = self.rows[:2] + [patch(EVE, ("cut", FILE, [b, c]))]
+        graph = file_graph(set_of(rows), FILE)
+        self.assertEqual(graph.present_lines(), [X, Z])
+        self.assertEqual([graph.strictly(X, Z), graph.strictly(X, c), graph.strictly(b, Z), graph.before(Z, X)],
+                         [True, True, True, False])
+
+    def test_a_circle_of_orders(self):
+        graph = file_graph(set_of(self.rows), FILE)
+        for one in [X, Y, Z, (BOB, 0, 0)]:
+            self.assertTrue(graph.before(one, one))
+            self.assertFalse(graph.strictly(one, one))
+            self.assertTrue(all(graph.apart(one, other) for other in [X, Y, Z]))
+
+    def test_asking_changes_nothing(self):
+        graph = file_graph(set_of(self.rows), FILE)
+        before = copy.deepcopy((graph.lines, graph.present, graph.edges))
+        for _ in range(2):
+            for one in graph.lines:
+                for other in graph.lines:
+                    graph.before(one, other), graph.strictly(one, other), graph.apart(one, other)
+            graph.present_lines().append(None)
+            self.assertEqual((graph.lines, graph.present, graph.edges), before)
 
     def test_random_sets(self):
         for seed in range(40):

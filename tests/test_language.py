@@ -9,9 +9,9 @@ import unittest
 FOLDER = os.path.join(os.path.dirname(os.path.dirname(os.path.abspath(__file__))), "quiltward")
 
 STATEMENTS = (ast.Assign, ast.AugAssign, ast.If, ast.While, ast.For, ast.Return, ast.Break, ast.Continue, ast.Pass,
-              ast.Raise, ast.Assert, ast.Delete, ast.Expr, ast.FunctionDef, ast.ClassDef, ast.ImportFrom)
-BARRED = (ast.Lambda, ast.Yield, ast.YieldFrom, ast.Await, ast.NamedExpr, ast.Starred, ast.Div, ast.MatMult, ast.Try,
-          ast.AnnAssign, ast.Global, ast.Nonlocal, ast.With)
+              ast.Raise, ast.Assert, ast.Delete, ast.Expr, ast.FunctionDef, ast.ClassDef, ast.ImportFrom, ast.Try)
+BARRED = (ast.Lambda, ast.Yield, ast.YieldFrom, ast.Await, ast.NamedExpr, ast.Starred, ast.Div, ast.MatMult,
+          ast.AnnAssign, ast.Global, ast.Nonlocal, ast.With, ast.Match, ast.Pow)
 BUILTINS = """len range enumerate zip min max sum abs sorted reversed int str bool list tuple dict set isinstance ord
 any all next iter ValueError""".split()
 METHODS = """append count endswith extend find get index insert items join keys partition pop remove replace rfind rsplit
@@ -210,8 +210,11 @@ class CodeTest(unittest.TestCase):
             for node in ast.walk(tree):
                 if isinstance(node, (ast.For, ast.comprehension)):
                     allowed.append(node.iter)
-                if isinstance(node, ast.Call) and isinstance(node.func, ast.Name) and node.func.id in ("list", "next"):
+                if isinstance(node, ast.Call) and isinstance(node.func, ast.Name) and node.func.id in ("list", "next", "sum"):
                     allowed.extend(node.args[:1])
+                if isinstance(node, ast.Call) and isinstance(node.func, ast.Name) and node.func.id == "reversed" \
+                        and isinstance(node.args[0], ast.Call) and node.args[0].func.id == "range":
+                    allowed.extend(node.args)
             for node in ast.walk(tree):
                 if isinstance(node, ast.Call) and isinstance(node.func, ast.Name) \
                         and node.func.id in ("zip", "enumerate", "reversed", "range", "iter"):
@@ -293,6 +296,33 @@ class CodeTest(unittest.TestCase):
                         self.assertTrue(isinstance(part, ast.Constant) and part.value in (None, True, False), word)
             if isinstance(node, ast.Raise):
                 self.assertTrue(isinstance(node.exc, ast.Call) and node.exc.func.id.endswith("Error"), word)
+
+    def test_only_own_errors_are_caught(self):
+        own = {node.name for node in SOURCES["errors"][1].body if isinstance(node, ast.ClassDef)}
+        for word, node in nodes():
+            if isinstance(node, ast.Try):
+                self.assertFalse(node.finalbody, word)
+            if isinstance(node, ast.ExceptHandler):
+                self.assertIn(node.type.id, own, word)
+        for word, node in functions():
+            caught = [part.name for part in ast.walk(node) if isinstance(part, ast.ExceptHandler) and part.name]
+            self.assertEqual(len(caught), len(set(caught)), word)
+            self.assertFalse(set(caught) & locals_of(node), word)
+
+    def test_no_name_is_a_method_and_an_attribute(self):
+        methods = {part.name for _, node in nodes() if isinstance(node, ast.ClassDef) for part in node.body
+                   if isinstance(part, ast.FunctionDef)}
+        for word, node in nodes():
+            if isinstance(node, ast.Attribute) and isinstance(node.ctx, ast.Store):
+                self.assertNotIn(node.attr, methods, word)
+
+    def test_what_is_kept_in_a_loop_is_not_in_its_head(self):
+        for word, node in nodes():
+            if isinstance(node, ast.For):
+                over = {ast.dump(part) for part in ast.walk(node.iter) if isinstance(part, ast.Attribute)}
+                for part in [part for statement in node.body for part in ast.walk(statement)]:
+                    if isinstance(part, ast.Call) and isinstance(part.func, ast.Attribute) and part.func.attr in CHANGES:
+                        self.assertNotIn(ast.dump(part.func.value), over, (word, node.lineno))
 
     def test_strings(self):
         for word, (text, tree) in SOURCES.items():
