@@ -7,12 +7,21 @@ def many_bits(mask):
     return digits.count("1")
 
 
+def first_free(lines, front, mask):
+    """Return the first line that has none of the lines of a sum of bits in front of it."""
+    for line in lines:
+        if not front[line] & mask:
+            return line
+    return None
+
+
 def in_order(graph, block):
     """Return the lines of a block as they are shown."""
     left, mask = sorted(block), graph.mask_of(block)
+    front = {line: graph.mask_in_front(line) & mask for line in block}
     order = []
     while left:
-        line = min([one for one in left if not graph.mask_in_front(one) & mask])
+        line = first_free(left, front, mask)
         left.remove(line)
         mask -= graph.bits[line]
         order.append(line)

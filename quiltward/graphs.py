@@ -55,18 +55,12 @@ class FileGraph:
         self.edges = {line: list(edges[line]) for line in edges}
         # Each line has a bit of its own; sums of bits stand for lists of lines.
         self.bits = {line: 1 << k for k, line in enumerate(sorted(lines))}
-        self.later = None
-        self.earlier = None
-
-    def follow(self):
-        """Find out, once, which lines are before which."""
-        if self.later is None:
-            self.later = masks_along(self.edges, self.bits)
-            self.earlier = masks_along(backwards(self.edges), self.bits)
+        # This is found out here, so that a graph that was passed does not change when it is asked.
+        self.later = masks_along(self.edges, self.bits)
+        self.earlier = masks_along(backwards(self.edges), self.bits)
 
     def before(self, one, other):
         """Return whether a line is before another one, or itself."""
-        self.follow()
         return self.later[one] & self.bits[other] != 0
 
     def strictly(self, one, other):
@@ -87,12 +81,10 @@ class FileGraph:
 
     def mask_behind(self, line):
         """Return the sum of the bits of the lines that a line is strictly before."""
-        self.follow()
         return self.later[line] & ~self.earlier[line]
 
     def mask_in_front(self, line):
         """Return the sum of the bits of the lines that are strictly before a line."""
-        self.follow()
         return self.earlier[line] & ~self.later[line]
 
 

@@ -75,7 +75,7 @@ class Session:
 
     def forget(self, paths):
         """Forget the edits of some paths."""
-        for path in paths:
+        for path in list(paths):
             self.edits.pop(path, None)
 
     def perform(self, deed):

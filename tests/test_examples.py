@@ -150,7 +150,7 @@ class ExamplesTest(unittest.TestCase):
     def test_readme(self):
         with open(README, encoding="ascii") as source:
             parts = [part for part in source.read().split("```\n")[1::2] if part.startswith(">>> ")]
-        self.assertEqual(len(parts), 2)
+        self.assertEqual(len(parts), 4)
         run_examples(self, "".join(parts))
 
 

@@ -5,6 +5,7 @@ import random
 import unittest
 
 from build import ANN, BOB, EVE, FILE, made, name, patch, random_rows, slow_counted, slow_standing, start
+from quiltward.blocks import blocks
 from quiltward.graphs import FileGraph, file_graph
 from quiltward.sets import set_of
 
@@ -145,13 +146,14 @@ class OfSetsTest(unittest.TestCase):
 
     def test_asking_changes_nothing(self):
         graph = file_graph(set_of(self.rows), FILE)
-        before = copy.deepcopy((graph.lines, graph.present, graph.edges))
+        before = copy.deepcopy(vars(graph))
         for _ in range(2):
             for one in graph.lines:
                 for other in graph.lines:
                     graph.before(one, other), graph.strictly(one, other), graph.apart(one, other)
             graph.present_lines().append(None)
-            self.assertEqual((graph.lines, graph.present, graph.edges), before)
+            blocks(graph)
+            self.assertEqual(vars(graph), before)
 
     def test_random_sets(self):
         for seed in range(40):

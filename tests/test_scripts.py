@@ -119,6 +119,12 @@ class ScriptRightTest(unittest.TestCase):
             self.assertIs(script_right(["a", "b"], ["a"], right + [more]), False)
         self.assertIs(script_right(["a", "a"], ["a", "a"], [("keep", 0, 0), ("keep", -1, -1)]), False)
 
+    def test_keeping_behind_the_end_of_one_list(self):
+        self.assertIs(script_right(["a"], ["a"], [("cut", 0), ("keep", 1, 0)]), False)
+        self.assertIs(script_right(["a"], ["a"], [("put", 0), ("keep", 0, 1)]), False)
+        self.assertIs(script_right([], ["a"], [("keep", 0, 0)]), False)
+        self.assertIs(script_right(["a"], [], [("keep", 0, 0)]), False)
+
     def test_out_of_order(self):
         self.assertIs(script_right(["a", "b"], [], [("cut", 1), ("cut", 0)]), False)
         self.assertIs(script_right([], ["a", "b"], [("put", 1), ("put", 0)]), False)
