@@ -117,17 +117,21 @@ def edges_of(rows, found, counts):
     return {line: sorted(table[line]) for line in table}
 
 
+def made_lines(rows):
+    """Return a dict from the lines that changes make to their texts."""
+    return {(name, place, k): text for name, place, change in rows if change[0] == "lines"
+            for k, text in enumerate(change[4])}
+
+
+def cut_lines(rows, found):
+    """Return a dict with the lines that changes of patches that stand take out as keys, and True."""
+    return {vertex: True for name, _, change in rows if change[0] == "cut" and name in found for vertex in change[2]}
+
+
 def file_graph(patches, file):
     """Return the graph of a file of a set."""
     found = standing(patches)
     rows = file_changes(patches, file)
-    lines, fallen = {}, {}
-    for name, place, change in rows:
-        if change[0] == "lines":
-            for k, text in enumerate(change[4]):
-                lines[(name, place, k)] = text
-        if change[0] == "cut" and name in found:
-            for vertex in change[2]:
-                fallen[vertex] = True
+    lines, fallen = made_lines(rows), cut_lines(rows, found)
     present = {line: True for line in lines if line[0] in found and line not in fallen}
     return FileGraph(lines, present, edges_of(rows, found, counted(patches)))

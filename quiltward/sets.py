@@ -47,8 +47,9 @@ def without(patches, name):
 
 
 def needs_table(patches):
-    """Return a dict from the ids of a set to the lists of the ids that their patches need."""
-    return {name: needs(patch) for name, patch in patches.items()}
+    """Return a dict from the ids of patches to the lists of the ids of others of them that they need."""
+    # What the rest of a stock needs may have been forgotten; a set has all that its patches need.
+    return {name: [other for other in needs(patch) if other in patches] for name, patch in patches.items()}
 
 
 def turned(table):

@@ -18,22 +18,37 @@ def files_of(patches):
     return [vertex for vertex, change in standing_changes(patches) if change[0] == "add"]
 
 
+def replaced_names(rows):
+    """Return a dict with the names that changes have in their lists of elder names as keys, and True."""
+    return {old: True for _, change in rows if change[0] in ("move", "drop") for old in change[-1]}
+
+
+def made_names(rows):
+    """Return the list of the triples (file, path, name) of the names that changes make."""
+    found = []
+    for vertex, change in rows:
+        if change[0] == "add":
+            found.append((vertex, change[1], vertex))
+        if change[0] == "move":
+            found.append((change[1], change[2], vertex))
+    return found
+
+
+def table_of_names(files, triples, replaced):
+    """Return a dict from files to the lists of the pairs of those names of them that nothing has replaced."""
+    table = {file: [] for file in files}
+    for file, path, name in triples:
+        # A file may have a name that stands although the patch that adds the file was taken back.
+        if file in table and name not in replaced:
+            table[file].append((path, name))
+    return {file: sorted(table[file]) for file in table}
+
+
 def names_table(patches):
     """Return a dict from the files of a set, ascending, to the lists of the pairs of their names."""
     rows = standing_changes(patches)
-    replaced = {}
-    for _, change in rows:
-        if change[0] in ("move", "drop"):
-            for old in change[-1]:
-                replaced[old] = True
-    table = {vertex: [] for vertex, change in rows if change[0] == "add"}
-    for vertex, change in rows:
-        if change[0] == "add" and vertex not in replaced:
-            table[vertex].append((change[1], vertex))
-        # A file may have a name that stands although the patch that adds the file was taken back.
-        if change[0] == "move" and vertex not in replaced and change[1] in table:
-            table[change[1]].append((change[2], vertex))
-    return {file: sorted(table[file]) for file in table}
+    files = [vertex for vertex, change in rows if change[0] == "add"]
+    return table_of_names(files, made_names(rows), replaced_names(rows))
 
 
 def names(patches, file):

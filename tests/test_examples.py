@@ -112,6 +112,63 @@ WANTS = """
 True
 """
 
+MEANINGS = """
+>>> from quiltward.meanings import merged_lines
+>>> merged_lines(["a = 1", "b"], ["b", "a = 1", "c = 2"], ["b", "  d = 3"])
+('lines', ['b', '  d = 3', 'c = 2'])
+>>> merged_lines(["a = 1"], ["a = 2"], ["a = 3"])
+('clash', [('a',)])
+"""
+
+QUORUMS = """
+>>> from quiltward.quorums import apart, blockers, quorums
+>>> rules = [("some", 2, ["ann", "bob", "eve"], True)]
+>>> quorums(rules, "ann"), blockers(rules, "ann") == quorums(rules, "ann"), apart(rules, "ann")
+([['ann', 'bob'], ['ann', 'eve'], ['bob', 'eve']], True, None)
+>>> blockers([("some", 1, ["ann", "bob"], True)], "eve"), apart([("some", 1, ["ann", "bob"], True)], "eve")
+([['ann', 'bob']], (['ann'], ['bob']))
+"""
+
+SCRIPT = r"""
+>>> from quiltward.script import run_script
+>>> run_script("rule - 0\nrule s 3\nhand ann 3\nhand bo 0\nstart\nann put s/a\n|secret\n.\nann put f\n|hi\n.\nann record one\nbo update\nbo paths\nbo show s/a")
+['ok', 'ok', 'recorded 2', '0 0.ann.1', '3 3.ann.1', 'updated 0', 'paths 1', 'f 1', 'refused denied']
+"""
+
+SEARCHING = """
+>>> from quiltward.searching import depth, plan, shield
+>>> a, b, c = [(("label", 0, ()), "ann", k) for k in [1, 2, 3]]
+>>> causes, tests = [[a], [b], [c], [b, c]], [[a], [a, b], [a, c]]
+>>> one, other = ("test", 0, ("found", [[a]]), ("found", [[b]])), ("test", 2, ("found", [[c]]), ("found", [[b, c]]))
+>>> plan(causes, tests) == ("test", 1, one, other), depth(plan(causes, tests)), shield(causes, tests)[0] == (causes, 2)
+(True, 2, True)
+"""
+
+SETTLING = """
+>>> from quiltward.graphs import FileGraph
+>>> from quiltward.settling import jumps, potentials_right, potentials, settled
+>>> a, b, c = [((("label", 0, ()), "ann", 1), 1, k) for k in range(3)]
+>>> graph = FileGraph({a: "a", b: "b", c: "c"}, {a: True, b: True, c: True}, {a: [c]})
+>>> order = settled(graph, [a, b, c])
+>>> order == [a, c, b], jumps(graph, order), jumps(graph, [a, b, c])
+(True, 1, 2)
+>>> potentials_right(graph, [a, b, c], potentials(graph, [a, b, c]), 1)
+True
+"""
+
+VOUCHING = """
+>>> from quiltward.sets import set_of
+>>> from quiltward.vouching import accepted, wanting, with_record
+>>> one = (("label", 0, ()), "ann", 1)
+>>> patches = set_of([("patch", one, [("add", ("a",))], "")])
+>>> rules = [("some", 1, ["ann", "bob", "eve"], False), ("none", ["bob"])]
+>>> records = with_record({}, ("ann", 1), ("agree", one))
+>>> accepted(patches, rules, records), wanting(patches, rules, records, one) == [(one, ["bob"])]
+({}, True)
+>>> accepted(patches, rules, with_record(records, ("eve", 7), ("agree", one))) == patches
+True
+"""
+
 
 class ExamplesTest(unittest.TestCase):
     def test_patches(self):
@@ -147,10 +204,28 @@ class ExamplesTest(unittest.TestCase):
     def test_wants(self):
         run_examples(self, WANTS)
 
+    def test_meanings(self):
+        run_examples(self, MEANINGS)
+
+    def test_quorums(self):
+        run_examples(self, QUORUMS)
+
+    def test_script(self):
+        run_examples(self, SCRIPT)
+
+    def test_searching(self):
+        run_examples(self, SEARCHING)
+
+    def test_settling(self):
+        run_examples(self, SETTLING)
+
+    def test_vouching(self):
+        run_examples(self, VOUCHING)
+
     def test_readme(self):
         with open(README, encoding="ascii") as source:
             parts = [part for part in source.read().split("```\n")[1::2] if part.startswith(">>> ")]
-        self.assertEqual(len(parts), 4)
+        self.assertEqual(len(parts), 7)
         run_examples(self, "".join(parts))
 
 

@@ -13,10 +13,10 @@ STATEMENTS = (ast.Assign, ast.AugAssign, ast.If, ast.While, ast.For, ast.Return,
 BARRED = (ast.Lambda, ast.Yield, ast.YieldFrom, ast.Await, ast.NamedExpr, ast.Starred, ast.Div, ast.MatMult,
           ast.AnnAssign, ast.Global, ast.Nonlocal, ast.With, ast.Match, ast.Pow)
 BUILTINS = """len range enumerate zip min max sum abs sorted reversed int str bool list tuple dict set isinstance ord
-any all next iter ValueError""".split()
-METHODS = """append count endswith extend find get index insert items join keys partition pop remove replace rfind rsplit
+any all next iter super ValueError""".split()
+METHODS = """append count endswith extend find get index insert items join keys lstrip partition pop remove replace rfind rsplit
 setdefault split startswith strip update values""".split()
-LIBRARY = {"heapq": ("heappush", "heappop")}
+LIBRARY = {"heapq": ("heappush", "heappop"), "itertools": ("combinations",)}
 NOWHERE = """register mro elements open input law version_info with_traceback add_note type typing enum dataclass overload
 contextmanager Enum Generic Protocol namedtuple""".split()
 NO_NAMES = """attrgetter breakpoint builtins compile copyright credits delattr dir eval exec exit gc getattr globals
@@ -217,7 +217,7 @@ class CodeTest(unittest.TestCase):
                     allowed.extend(node.args)
             for node in ast.walk(tree):
                 if isinstance(node, ast.Call) and isinstance(node.func, ast.Name) \
-                        and node.func.id in ("zip", "enumerate", "reversed", "range", "iter"):
+                        and node.func.id in ("zip", "enumerate", "reversed", "range", "iter", "combinations"):
                     self.assertIn(node, allowed, word)
                 if isinstance(node, ast.Call) and isinstance(node.func, ast.Attribute) \
                         and node.func.attr in ("items", "keys", "values"):
@@ -287,6 +287,18 @@ class CodeTest(unittest.TestCase):
         for word, node in nodes():
             if isinstance(node, ast.Attribute) and isinstance(node.ctx, ast.Load):
                 self.assertIn(node.attr, attributes | methods | set(METHODS), word)
+
+    def test_super_calls_a_method_of_the_class_above(self):
+        for word, (_, tree) in SOURCES.items():
+            allowed = []
+            for node in ast.walk(tree):
+                if isinstance(node, ast.Call) and isinstance(node.func, ast.Attribute) \
+                        and isinstance(node.func.value, ast.Call) and not node.func.attr.startswith("_"):
+                    allowed.append(node.func.value)
+            for node in ast.walk(tree):
+                if isinstance(node, ast.Call) and isinstance(node.func, ast.Name) and node.func.id == "super":
+                    self.assertIn(node, allowed, word)
+                    self.assertFalse(node.args or node.keywords, word)
 
     def test_identity_and_raising(self):
         for word, node in nodes():

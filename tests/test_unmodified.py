@@ -6,13 +6,24 @@ import unittest
 
 from build import PUBLIC, label, name, patch, random_rows
 from queues import random_case
-from quiltward import (blame, blocks, bundles, checks, commuting, errors, graphs, halving, labels, logs, patches, paths,
-                       projecting, reclassing, repos, scripts, sessions, sets, splitting, tapes, trains, trees, wants,
-                       written)
+from quiltward import (blame, blocks, bundles, checks, commuting, errors, graphs, halving, labels, logs, low, meanings,
+                       patches, paths, picking, projecting, quorums, reclassing, repos, script, scripts, searching,
+                       sessions, sets, settling, splitting, stocks, tapes, texts, trains, trees, versions, vouching,
+                       wants, written)
 from quiltward.archives import Archive
 from quiltward.guessing import Yard
+from quiltward.sites import Site
+from quiltward.wires import End
+from quiltward.worlds import World
+from test_meanings import changed, random_tree
+from test_quorums import random_rules
 from test_scripts import lists
-from work import HIGH, MID, SIDE, WORK_PATHS, all_ids, busy_repo, random_deed, state
+from test_searching import random_case as searching_case
+from test_settling import random_graph
+from test_versions import random_version
+from test_vouching import random_records
+from work import (HANDS, HIGH, MID, RULES, SIDE, TOP, WORK_PATHS, all_ids, busy_repo, busy_world, random_deed, random_step,
+                  state, world_state)
 
 
 def held(value, found):
@@ -29,6 +40,11 @@ def held(value, found):
     return found
 
 
+def rng_bool(seed):
+    """A drawn answer."""
+    return random.Random(seed).random() < 0.5
+
+
 class UnmodifiedTest(unittest.TestCase):
     def call(self, deed, *given):
         """The result of a call, or None where it raises an error of the program."""
@@ -41,6 +57,11 @@ class UnmodifiedTest(unittest.TestCase):
         mine, told = held(given, {}), held(result, {})
         self.assertEqual(set(mine) & set(told), set(), deed)
         return result
+
+    def separate(self, one, other):
+        """Two values share no list and no dict."""
+        mine, theirs = held(one, {}), held(other, {})
+        self.assertEqual(set(mine) & set(theirs), set())
 
     def calls_on_sets(self, rows, other):
         whole = self.call(sets.set_of, rows)
@@ -264,6 +285,172 @@ class UnmodifiedTest(unittest.TestCase):
                 self.assertEqual(state(repo), kept)
                 self.assertFalse(set(held([rows, before.spaces], {})) & set(own))
 
+    def test_worlds_and_comparisons(self):
+        for seed in range(10):
+            rng = random.Random(seed)
+            rules, hands = list(RULES), list(HANDS)
+            world = World(rules, hands)
+            for _ in range(60):
+                one, deed = random_step(rng, all_ids(world.repo))
+                answer = self.call(world.perform, one, deed)
+                own = [world.repo.rules, world.repo.spaces, world.repo.papers, world_state(world)[1]]
+                self.separate(answer, own)
+            self.assertEqual((rules, hands), (RULES, HANDS))
+            self.separate([rules, hands], [world.repo.rules])
+            other = busy_world(rng, 20)
+            kept = copy.deepcopy([world_state(one) for one in (world, other)])
+            told = [low.view(world.repo, clearance) for clearance in (MID, TOP)]
+            self.separate(told, list(state(world.repo)))
+            low.alike(world.repo, other.repo, MID)
+            rows = [random_step(rng, all_ids(world.repo)) for _ in range(20)]
+            for one, deed in rows:
+                self.call(lambda *given: low.is_secret(world, MID, *given), one, deed)
+            self.call(lambda given: low.compare((world, other), MID, given), (rows, rows))
+            self.call(lambda given: low.compare((world, world), MID, given), (rows, rows[1:]))
+            self.assertEqual([world_state(one) for one in (world, other)], kept)
+        self.call(script.run_script, "hand ann 0\nstart\nann log")
+
+    def test_meanings_and_texts(self):
+        for seed in range(40):
+            rng = random.Random(seed)
+            base = random_tree(rng)
+            one, other = changed(rng, base), changed(rng, base)
+            rows = [self.call(meanings.lines_of_tree, tree, 0) for tree in (base, one, other)]
+            for lines in rows:
+                self.call(meanings.tree_of, lines)
+            self.call(meanings.tree_of, rows[0] + ["?"])
+            for given in [(base, one, other), (base, base, other), (base, one, one), ({}, one, {}), (one, one, one)]:
+                self.call(meanings.merged_trees, *given)
+            self.call(meanings.merged_lines, *rows)
+        lines = self.call(texts.lines_of, "a\nb\n")
+        self.call(texts.joined, lines)
+
+    def test_picking_and_versions(self):
+        for seed in range(12):
+            rng = random.Random(seed)
+            rows = random_rows(seed, 9)
+            whole = sets.set_of(rows)
+            ids, other = random_version(rng, rows), random_version(rng, rows)
+            target = {one: whole[one] for one in other}
+            for deed in [picking.picked, picking.pick]:
+                self.call(deed, whole, target, ids)
+                self.call(deed, whole, whole, ids)
+                self.call(deed, sets.set_of(random_rows(seed + 9, 3)), target, [])
+            paper = self.call(picking.chains, whole, target, ids)
+            self.call(picking.chains_right, whole, target, ids, paper)
+            self.call(picking.chains_right, whole, target, ids, paper[::-1])
+            self.call(picking.taken_out, whole, ids)
+            self.call(picking.take_out, whole, ids)
+            for deed in [versions.is_version, versions.tops, versions.version_of]:
+                self.call(deed, whole, ids[::-1])
+            one, two = versions.tops(whole, ids), versions.tops(whole, other)
+            for deed in [versions.joined_tops, versions.common_tops, versions.steps_from, versions.changed_paths]:
+                self.call(deed, whole, one, two)
+                self.call(deed, whole, one, one)
+            steps = versions.steps_from(whole, one, two)
+            self.call(versions.steps_right, whole, one, two, steps)
+            self.call(versions.steps_right, whole, one, two, steps[::-1])
+
+    def test_hands(self):
+        for seed in range(20):
+            rng = random.Random(seed)
+            rules, whole = random_rules(rng), sets.set_of(random_rows(seed, 6))
+            hands = self.call(quorums.hands_of, rules, "ann")
+            self.call(quorums.suffices, rules, "ann", hands[:2])
+            rows = self.call(quorums.quorums, rules, "ann")
+            for deed in [quorums.blockers, quorums.apart]:
+                self.call(deed, rules, "ann")
+            self.call(quorums.dual, rows, hands)
+            one, other = quorums.apart([], "ann")
+            self.assertIsNot(one, other)
+            records = random_records(rng, sorted(whole), 20)
+            self.call(vouching.with_record, records, ("zed", 1), ("agree", sorted(whole)[0]))
+            self.call(vouching.with_record, records, *sorted(records.items())[0])
+            self.call(vouching.standing_records, records)
+            self.call(vouching.accepted, whole, rules, records)
+            for name_of in whole:
+                self.call(vouching.said_of, records, name_of, "agree")
+                self.call(vouching.unmet, rules, records, name_of)
+                self.call(vouching.wanting_for, rules, records, name_of)
+                self.call(vouching.wanting, whole, rules, records, name_of)
+                paper = self.call(vouching.why, whole, rules, records, name_of)
+                self.call(vouching.why_right, whole, rules, records, name_of, paper)
+
+    def test_searching(self):
+        for seed in range(20):
+            causes, tests = searching_case(seed)
+            good, bad = {}, sets.set_of(random_rows(seed, 6))
+            for deed in [searching.new_ids, searching.parts_between, searching.picks_between]:
+                self.call(deed, good, bad)
+            self.call(searching.causes_between, good, bad, 2)
+            tree, rows = self.call(searching.plan, causes, tests), self.call(searching.shield, causes, tests)
+            self.call(searching.depth, tree)
+            self.call(searching.plan_right, causes, tests, tree)
+            self.call(searching.shield_right, causes, tests, rows)
+            search = self.call(searching.Search, causes, tests)
+            own = [list(vars(search).values()), causes, tests]
+            while search.next_part() is not None:
+                self.separate(search.next_part(), own)
+                search.answer(rng_bool(seed))
+            self.separate(search.found(), own)
+
+    def test_settling(self):
+        for seed in range(30):
+            graph = random_graph(seed)
+            before = copy.deepcopy((graph.lines, graph.present, graph.edges))
+            for block in blocks.blocks(graph):
+                for deed in [settling.has_circle, settling.settled]:
+                    self.call(lambda given: deed(graph, given), block)
+                self.call(lambda *given: settling.orders_right(graph, *given), block, block[::-1])
+                self.call(lambda given: settling.jumps(graph, given), block)
+                if settling.settled(graph, block):
+                    rows = self.call(lambda given: settling.potentials(graph, given), block)
+                    self.call(lambda *given: settling.potentials_right(graph, *given), block, rows, 1)
+            self.separate(settling.settling(graph, name("ann", 1)), [graph.lines, graph.present, graph.edges])
+            self.assertEqual((graph.lines, graph.present, graph.edges), before)
+
+    def test_stocks(self):
+        for seed in range(30):
+            rows = random_rows(seed, 8)
+            whole, ids = sets.set_of(rows), [row[1] for row in rows[:4]]
+            self.call(stocks.may_forget, whole, ids)
+            self.call(stocks.rest_of, whole, ids)
+            if stocks.may_forget(whole, ids):
+                stock = self.call(stocks.stock_of, whole, ids)
+                rest = stocks.rest_of(whole, ids)
+                self.call(stocks.fits_stock, stock, rest, patch(name("zed", 1), ("add", ("a",))))
+                self.call(stocks.stock_tree, stock, rest)
+                for file in trees.files_of(whole):
+                    self.call(stocks.stock_names, stock, rest, file)
+                    graph = self.call(stocks.stock_graph, stock, rest, file)
+                    self.separate([graph.lines, graph.present, graph.edges], [stock, rest])
+
+    def test_wires_and_sites(self):
+        for seed in range(12):
+            rng = random.Random(seed)
+            rows = random_rows(seed, 8)
+            given = sets.set_of(rows[:5])
+            end = self.call(End, PUBLIC, given)
+            self.assertIsNot(end.patches, given)
+            for row in rng.sample(rows, 8):
+                before = end.patches, copy.deepcopy(end.patches)
+                self.call(end.receive, (PUBLIC, [row[1]], [row]))
+                told = [end.message(), end.known(), end.waiting()]
+                self.separate(told, list(vars(end).values()))
+                self.assertEqual(before[0], before[1])
+            peers = {"two": MID, "three": TOP}
+            site = self.call(Site, RULES, HIGH, peers)
+            for at in [PUBLIC, MID, HIGH]:
+                self.call(site.put, patch(name("ann", 1, at), ("add", ("a",))))
+            message = self.call(site.send, "two")
+            own = [site.repo.rules, site.repo.spaces, site.archive.tapes, [list(vars(one).values()) for one in site.ends.values()]]
+            self.separate(message, own)
+            before = [(patches, copy.deepcopy(patches)) for patches in list(site.repo.spaces.values())]
+            self.call(site.receive, "two", [(PUBLIC, [], rows[:3])])
+            self.call(site.crash, {PUBLIC: (3, 0)})
+            for mine, kept in before:
+                self.assertEqual(mine, kept)
+
     def test_all_errors_are_ward_errors(self):
         one = ("label", 0, ())
         bad = patch(name("ann", 0), ("add", ("a",)))
@@ -271,7 +458,10 @@ class UnmodifiedTest(unittest.TestCase):
         log = logs.Log(tape, one)
         for deed, given in [(patches.check_patch, (bad,)), (sets.with_patch, ({}, bad)), (written.read_patch, ([],)),
                             (tape.mark, ()), (log.out, (name("ann", 1),)), (log.untag, ("t",)), (log.put, (bad,)),
-                            (repos.Repo([]).put, (bad,))]:
+                            (repos.Repo([]).put, (bad,)), (texts.lines_of, ("a",)), (meanings.tree_of, (["?"],)),
+                            (script.run_script, ("?",)), (vouching.check_record, (("", 1), ("agree", bad[1]))),
+                            (End(one, {}).add, (bad,)), (Site([], one, {}).put, (bad,)),
+                            (picking.pick, ({bad[1]: bad}, {bad[1]: patch(bad[1])}, []))]:
             with self.assertRaises(errors.WardError):
                 deed(*given)
 

@@ -3,6 +3,7 @@
 from build import PUBLIC, label, random_patch, random_rows
 from quiltward.repos import Repo
 from quiltward.sessions import Session
+from quiltward.worlds import World
 
 LOW, MID, HIGH = label(0), label(1, 2), label(3, 0, 2)
 SIDE = label(2, 1)
@@ -67,3 +68,30 @@ def outside_patch(rng, repo, at, name):
     """Put a random patch of somebody else into a space."""
     rows = list(repo.space(at).values())
     repo.put(random_patch(rng, rows, repo.next_id(at, name)))
+
+
+TOP = label(7, 0, 1, 2)
+HANDS = [("cid", HIGH), ("dan", MID), ("fay", LOW), ("gus", TOP)]
+PREFIXES = [(), ("a",), ("a", "b"), ("m",), ("s",), ("s", "low"), ("x",), ("q",)]
+
+
+def random_step(rng, ids):
+    """A random pair of a name and a deed of a world."""
+    hand = rng.choice(["cid", "cid", "dan", "fay", "gus"])
+    if rng.random() < 0.06:
+        return hand, ("reclass", rng.choice(PREFIXES), rng.choice([LOW, MID, HIGH, SIDE]))
+    return hand, random_deed(rng, ids)
+
+
+def busy_world(rng, many):
+    """A world in which some random deeds were performed."""
+    world = World(RULES, HANDS)
+    for _ in range(many):
+        world.perform(*random_step(rng, all_ids(world.repo)))
+    return world
+
+
+def world_state(world):
+    """All that a world has."""
+    sessions = {one: (who.name, who.clearance, who.edits, who.base) for one, who in world.sessions.items()}
+    return state(world.repo), sessions
