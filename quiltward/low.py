@@ -36,13 +36,15 @@ def copy_of_edits(edits):
 
 def copy_of_world(world):
     """Return a copy of a world."""
-    other = World([], [])
-    other.repo = copy_of(world.repo)
+    repo, sessions = copy_of(world.repo), {}
     for name, session in world.sessions.items():
-        twin = Session(other.repo, name, session.clearance)
+        twin = Session(repo, name, session.clearance)
         twin.edits = copy_of_edits(session.edits)
         twin.base = {label: session.base[label] for label in session.base}
-        other.sessions[name] = twin
+        sessions[name] = twin
+    other = World([], [])
+    other.repo = repo
+    other.sessions = sessions
     return other
 
 

@@ -52,8 +52,8 @@ class Site:
 
     def spread(self, label):
         """Let the space of a label and its ends have the same patches."""
-        ends = [self.ends[key] for key in sorted(self.ends) if key[1] == label]
-        patches, before = self.repo.space(label), -1
+        repo, ends = self.repo, [self.ends[key] for key in sorted(self.ends) if key[1] == label]
+        patches, before = repo.space(label), -1
         # What one end gets may be what patches that wait at another one need.
         while len(patches) > before:
             before = len(patches)
@@ -64,7 +64,7 @@ class Site:
                 if len(end.patches) > len(patches):
                     patches = {name: end.patches[name] for name in end.patches}
         if patches:
-            self.repo.spaces[label] = patches
+            repo.spaces[label] = patches
 
     def send(self, peer):
         """Save the repository, and return the list of the messages for a peer."""
@@ -89,7 +89,7 @@ class Site:
         tapes = self.archive.tapes
         for label in tapes:
             tapes[label].crash(kept.get(label, NOTHING))
-        restored = self.archive.restore(self.rules, self.clearance)
-        self.repo = SiteRepo(self.rules, self)
-        self.repo.spaces = restored.spaces
+        repo = SiteRepo(self.rules, self)
+        repo.spaces = self.archive.restore(self.rules, self.clearance).spaces
+        self.repo = repo
         self.ends = {}

@@ -139,6 +139,7 @@ class TakeOutTest(unittest.TestCase):
                                ([ANN], [ANN, BOB, EVE, LAST]), ([DAN, LAST], [DAN, LAST]), ([EVE, LAST, EVE], [EVE, LAST])]:
             self.assertEqual(taken_out(WHOLE, unwanted), want)
             self.assertEqual(take_out(WHOLE, unwanted), {one: WHOLE[one] for one in WHOLE if one not in want})
+        self.assertEqual(take_out({}, []), {})
 
     def test_nothing_less_can_be_taken_out(self):
         for seed in range(8):

@@ -291,6 +291,12 @@ class PotentialsTest(unittest.TestCase):
         self.assertIs(potentials_right(graph, [A], [([], A, -1)], -1), True)
         self.assertIs(potentials_right(graph, [A], [], 0), False)
 
+    def test_lines_that_are_not_of_the_block(self):
+        graph, block = graph_of({}), [A, B]
+        rows = potentials(graph, block)
+        for other in [([], C, 0), ([C], A, 0), ([], E, 0), ([A, B, C], B, 0), ([B, A], A, 0), ([A, A], B, 0)]:
+            self.assertIs(potentials_right(graph, block, rows + [other], 1), False)
+
     def test_lesser_numbers(self):
         graph, block = graph_of({}), [A, B, C]
         rows = [(left, last, 0) for left, last, _ in potentials(graph, block)]
